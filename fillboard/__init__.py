@@ -1,0 +1,1 @@
+"""Pieces that fill a board."""
