@@ -1,8 +1,10 @@
-"""Pieces as lists of squares (x, y), and the ways in which they lie."""
+"""Sets of squares as numbers and as lists of (x, y); pieces, and the ways in which they lie."""
 
 SIDE = 8
 MOST_SQUARES = 8
 QUARTERS = 4
+NOT_IN_FIRST_COLUMN = 18374403900871474942
+NOT_IN_LAST_COLUMN = 9187201950435737471
 
 
 def squares_of(number):
@@ -18,28 +20,36 @@ def number_of(squares):
     return number
 
 
-def neighbours(square):
-    """The places that share a side with the square; some may lie outside of all squares."""
-    x = square[0]
-    y = square[1]
-    return [(x + 1, y), (x - 1, y), (x, y + 1), (x, y - 1)]
+def size_of(number):
+    """How many squares the set has."""
+    size = 0
+    while number != 0:
+        # Less 1, only the bits from the lowest set one on are other ones.
+        number = number & (number - 1)
+        size = size + 1
+    return size
 
 
-def is_joined(squares):
-    """Whether all the squares (at least one) hang together by their sides."""
-    reached = [squares[0]]
-    walked = 0
-    while walked < len(reached):
-        for place in neighbours(reached[walked]):
-            if place in squares and place not in reached:
-                reached.append(place)
-        walked = walked + 1
-    return len(reached) == len(squares)
+def with_neighbours(number):
+    """The set of the squares and of all that share a side with one of them; bits above the squares may be set too."""
+    right = (number & NOT_IN_LAST_COLUMN) << 1
+    left = (number & NOT_IN_FIRST_COLUMN) >> 1
+    return number | right | left | (number << SIDE) | (number >> SIDE)
 
 
-def is_piece(squares):
-    """Whether the squares make up a piece."""
-    return 1 <= len(squares) <= MOST_SQUARES and is_joined(squares)
+def first_part(number):
+    """The set of those squares that hang together, by their sides, with the first one (there is at least one)."""
+    part = 0
+    grown = number & -number
+    while grown != part:
+        part = grown
+        grown = with_neighbours(part) & number
+    return part
+
+
+def is_piece(number):
+    """Whether the set is a piece."""
+    return 1 <= size_of(number) <= MOST_SQUARES and first_part(number) == number
 
 
 def turned(squares):

@@ -1,14 +1,39 @@
 """The calls: each answers a list of whole numbers, a refusal being its number alone."""
 
+from fillboard.lays import Puzzle
 from fillboard.pieces import is_piece, squares_of, ways_to_lie
+from fillboard.walk import Walk
 
 NO_PIECE = -2
+OUT_OF_RANGE = -8
+
+MOST_PIECES = 32
+MOST_COUNTED = 1000000
+
+
+def refusal(m, pieces):
+    """The number of the refusal that comes ahead of the search, or 0 if there is none."""
+    if m < 0 or m > MOST_PIECES:
+        return OUT_OF_RANGE
+    for piece in pieces:
+        if not is_piece(piece):
+            return NO_PIECE
+    return 0
 
 
 def ways(piece):
     """How many ways the piece has to lie, then these, as sets of squares."""
-    squares = squares_of(piece)
-    if not is_piece(squares):
+    if not is_piece(piece):
         return [NO_PIECE]
-    found = ways_to_lie(squares)
+    found = ways_to_lie(squares_of(piece))
     return [len(found)] + found
+
+
+def count(board, m, the_all, pieces, counts):
+    """How many fillings there are, 1000000 standing for as many or more."""
+    refused = refusal(m, pieces)
+    if refused != 0:
+        return [refused]
+    walk = Walk(Puzzle(board, the_all, pieces, counts))
+    walk.walk_through(MOST_COUNTED - 1, MOST_COUNTED - 1)
+    return [min(walk.passed, MOST_COUNTED)]

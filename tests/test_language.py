@@ -83,6 +83,55 @@ class Code(unittest.TestCase):
                 self.assertIsNone(node.args.vararg or node.args.kwarg, where)
                 self.assertEqual(node.args.kwonlyargs, [], where)
 
+    def test_classes(self):
+        methods = set()
+        values = set()
+        for name, node in trees():
+            if isinstance(node, ast.ClassDef):
+                self.assertEqual(node.decorator_list, [], node.name)
+                self.assertLessEqual(len(node.bases), 1, node.name)
+                for number, one in enumerate(node.body):
+                    if number > 0 or ast.get_docstring(node) is None:
+                        self.assertIsInstance(one, ast.FunctionDef, node.name)
+                        methods.add(one.name)
+            if isinstance(node, ast.Attribute) and isinstance(node.ctx, ast.Store):
+                self.assertIsInstance(node.value, ast.Name, f"{name} {node.lineno}")
+                values.add(node.attr)
+        self.assertEqual(methods & values, set())
+        for one in methods | values:
+            self.assertRegex(one, r"\A[A-Za-z]\w*\Z|\A__init__\Z")
+        for kind in (str, int, list, tuple, dict, set, bytes):
+            self.assertEqual(values & set(dir(kind)), set())
+            self.assertEqual(methods & set(dir(kind)), methods & {"__init__"})
+
+    def test_the_top_of_a_file(self):
+        for name, text in sources():
+            bound = []
+            for number, one in enumerate(ast.parse(text).body):
+                if isinstance(one, ast.Assign):
+                    self.assertIsInstance(ast.literal_eval(one.value), (int, str, tuple), name)
+                    bound.append(one.targets[0].id)
+                elif isinstance(one, (ast.FunctionDef, ast.ClassDef)):
+                    bound.append(one.name)
+                elif isinstance(one, ast.ImportFrom):
+                    bound.extend(alias.name for alias in one.names)
+                else:
+                    self.assertTrue(number == 0 and isinstance(one, ast.Expr), name)
+            self.assertEqual(len(bound), len(set(bound)), name)
+
+    def test_no_local_is_called_like_an_import_or_class(self):
+        for name, text in sources():
+            tree = ast.parse(text)
+            outer = {node.name for node in tree.body if isinstance(node, ast.ClassDef)}
+            for node in tree.body:
+                if isinstance(node, ast.ImportFrom):
+                    outer.update(alias.name for alias in node.names)
+            for node in ast.walk(tree):
+                if isinstance(node, ast.arg):
+                    self.assertNotIn(node.arg, outer, name)
+                if isinstance(node, ast.Name) and isinstance(node.ctx, ast.Store):
+                    self.assertNotIn(node.id, outer, name)
+
     def test_statements_and_expressions(self):
         for name, node in trees():
             where = f"{name} {getattr(node, 'lineno', '')}"
@@ -109,8 +158,8 @@ class Code(unittest.TestCase):
                 bound = node.name
             if isinstance(node, ast.arg):
                 bound = node.arg
-            if bound is not None:
-                self.assertRegex(bound, r"\A[A-Za-z]\w*\Z|\A__init__\Z", name)
+            if bound is not None and bound != "__init__":
+                self.assertRegex(bound, r"\A[A-Za-z]\w*\Z", name)
                 self.assertFalse(hasattr(builtins, bound), f"{name} {bound}")
 
     def test_names_of_python_s_own(self):

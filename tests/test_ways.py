@@ -3,25 +3,11 @@
 import inspect
 import unittest
 
+from boards import ALL_SQUARES, drawn, in_corner, square
 from fillboard import puzzles
 from fillboard.puzzles import ways
 
 NONE = [-2]
-ALL_SQUARES = 2**64 - 1
-
-
-def square(x, y):
-    return 1 << (x + 8 * y)
-
-
-def drawn(text, x=0, y=0):
-    """The set that a drawing shows: rows of y, parted by blanks, '#' for a square."""
-    number = 0
-    for down, row in enumerate(text.split()):
-        for right, sign in enumerate(row):
-            if sign == "#":
-                number |= square(x + right, y + down)
-    return number
 
 
 def told(*drawings):
@@ -55,15 +41,9 @@ def grown_pieces(most):
             for x, y in piece:
                 for place in ((x + 1, y), (x - 1, y), (x, y + 1), (x, y - 1)):
                     if place not in piece:
-                        larger.add(cornered(piece | {place}))
+                        larger.add(in_corner(piece | {place}))
         sizes.append(larger)
     return [[sum(square(x, y) for x, y in piece) for piece in pieces] for pieces in sizes]
-
-
-def cornered(piece):
-    left = min(x for x, y in piece)
-    top = min(y for x, y in piece)
-    return frozenset((x - left, y - top) for x, y in piece)
 
 
 class TheCall(unittest.TestCase):
