@@ -5,20 +5,32 @@ from fillboard.pieces import is_piece, squares_of, ways_to_lie
 from fillboard.walk import Walk
 
 NO_PIECE = -2
+NOT_SO_MANY = -3
+MORE_THAN_MOST = -7
 OUT_OF_RANGE = -8
 
 MOST_PIECES = 32
 MOST_COUNTED = 1000000
 
 
-def refusal(m, pieces):
+def refusal(m, k, most, pieces):
     """The number of the refusal that comes ahead of the search, or 0 if there is none."""
-    if m < 0 or m > MOST_PIECES:
+    if m < 0 or m > MOST_PIECES or most < 0 or k < 0 or k >= MOST_COUNTED:
         return OUT_OF_RANGE
     for piece in pieces:
         if not is_piece(piece):
             return NO_PIECE
     return 0
+
+
+def told(lays, most):
+    """How many lays there are, then each one's piece and squares."""
+    if len(lays) > most:
+        return [MORE_THAN_MOST]
+    answer = [len(lays)]
+    for lay in lays:
+        answer.extend([lay.piece, lay.squares])
+    return answer
 
 
 def ways(piece):
@@ -31,9 +43,21 @@ def ways(piece):
 
 def count(board, m, the_all, pieces, counts):
     """How many fillings there are, 1000000 standing for as many or more."""
-    refused = refusal(m, pieces)
+    refused = refusal(m, 0, 0, pieces)
     if refused != 0:
         return [refused]
     walk = Walk(Puzzle(board, the_all, pieces, counts))
     walk.walk_through(MOST_COUNTED - 1, MOST_COUNTED - 1)
     return [min(walk.passed, MOST_COUNTED)]
+
+
+def nth(board, m, the_all, k, most, pieces, counts):
+    """The k-th filling: how many pieces are laid, then each one's number and squares."""
+    refused = refusal(m, k, most, pieces)
+    if refused != 0:
+        return [refused]
+    walk = Walk(Puzzle(board, the_all, pieces, counts))
+    walk.walk_through(k, k)
+    if len(walk.found) == 0:
+        return [NOT_SO_MANY]
+    return told(walk.found[0], most)

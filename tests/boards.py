@@ -81,9 +81,13 @@ def plain_ways(piece):
     return found
 
 
+def by_rows(place):
+    return place[1], place[0]
+
+
 def plain_lays(board, pieces):
-    """Every lay on the board: the piece's number, its way's number, its squares."""
-    lays = []
+    """Every lay on the board, by its last square: the piece's number, its way's number, its squares."""
+    lays = {}
     whole = places(board)
     for number, piece in enumerate(pieces):
         for kind, way in enumerate(plain_ways(piece)):
@@ -91,7 +95,7 @@ def plain_lays(board, pieces):
                 for down in range(8):
                     moved = frozenset((x + right, y + down) for x, y in way)
                     if moved <= whole:
-                        lays.append((number, kind, moved))
+                        lays.setdefault(max(moved, key=by_rows), []).append((number, kind, moved))
     return lays
 
 
@@ -114,9 +118,8 @@ def plain_fillings(board, the_all, pieces, counts):
             if not the_all or not any(stock):
                 found.append(sorted(laid, key=first_bit))
             return
-        last = max(left, key=lambda place: (place[1], place[0]))
-        for lay in lays:
-            if stock[lay[0]] and last in lay[2] and lay[2] <= left:
+        for lay in lays.get(max(left, key=by_rows), []):
+            if stock[lay[0]] and lay[2] <= left:
                 rest = list(stock)
                 rest[lay[0]] -= 1
                 cover(left - lay[2], rest, laid + [lay])
