@@ -62,21 +62,33 @@ def mirrored(squares):
     return [(-x, y) for x, y in squares]
 
 
-def moved_to_corner(squares):
-    """The squares, as far to x 0 and y 0 as they go."""
-    least_x = min([x for x, y in squares])
-    least_y = min([y for x, y in squares])
-    return [(x - least_x, y - least_y) for x, y in squares]
+def corner_of(squares):
+    """The least x and the least y of the squares (there is at least one)."""
+    return (min([x for x, y in squares]), min([y for x, y in squares]))
+
+
+def moved_to(squares, corner):
+    """The squares, moved so that their least x and y are those of the corner."""
+    least = corner_of(squares)
+    return [(x - least[0] + corner[0], y - least[1] + corner[1]) for x, y in squares]
+
+
+def turns_of(squares):
+    """The squares as they are, turned by one, two, three quarters, and their mirror, turned so; none is moved back."""
+    found = []
+    for side_up in [squares, mirrored(squares)]:
+        lying = side_up
+        for quarter in range(QUARTERS):
+            found.append(lying)
+            lying = turned(lying)
+    return found
 
 
 def ways_to_lie(squares):
     """The numbers of the sets that a piece covers in each of its ways, in their order."""
     found = []
-    for side_up in [squares, mirrored(squares)]:
-        lying = side_up
-        for quarter in range(QUARTERS):
-            number = number_of(moved_to_corner(lying))
-            if number not in found:
-                found.append(number)
-            lying = turned(lying)
+    for lying in turns_of(squares):
+        number = number_of(moved_to(lying, (0, 0)))
+        if number not in found:
+            found.append(number)
     return found

@@ -2,15 +2,18 @@
 
 from fillboard.lays import Puzzle
 from fillboard.pieces import is_piece, squares_of, ways_to_lie
+from fillboard.turns import number_different
 from fillboard.walk import Walk
 
 NO_PIECE = -2
 NOT_SO_MANY = -3
+TOO_MANY_FILLINGS = -6
 MORE_THAN_MOST = -7
 OUT_OF_RANGE = -8
 
 MOST_PIECES = 32
 MOST_COUNTED = 1000000
+MOST_COMPARED = 10000
 
 
 def refusal(m, k, most, pieces):
@@ -61,3 +64,15 @@ def nth(board, m, the_all, k, most, pieces, counts):
     if len(walk.found) == 0:
         return [NOT_SO_MANY]
     return told(walk.found[0], most)
+
+
+def different(board, m, the_all, pieces, counts):
+    """How many fillings there are if those that a turn or mirror of the board brings to one another are one."""
+    refused = refusal(m, 0, 0, pieces)
+    if refused != 0:
+        return [refused]
+    walk = Walk(Puzzle(board, the_all, pieces, counts))
+    walk.walk_through(0, MOST_COMPARED)
+    if len(walk.found) > MOST_COMPARED:
+        return [TOO_MANY_FILLINGS]
+    return [number_different(board, walk.found)]

@@ -129,6 +129,27 @@ def plain_fillings(board, the_all, pieces, counts):
     return [[(number, as_number(squares)) for number, kind, squares in filling] for filling in found]
 
 
+def plain_different(board, fillings):
+    """How many fillings are different, by pairs: each is held against every turn of those before."""
+    whole = places(board)
+    turns = []
+    for turn in TURNS:
+        brought = {(x, y): turn(x, y) for x, y in whole}
+        across = min(x for x, y in whole) - min(x for x, y in brought.values())
+        down = min(y for x, y in whole) - min(y for x, y in brought.values())
+        brought = {place: (x + across, y + down) for place, (x, y) in brought.items()}
+        if whole == set(brought.values()):
+            turns.append(brought)
+    kept = set()
+    for filling in fillings:
+        images = []
+        for brought in turns:
+            images.append(frozenset((one, frozenset(brought[place] for place in places(lay))) for one, lay in filling))
+        if not kept.intersection(images):
+            kept.add(images[0])
+    return len(kept)
+
+
 def random_piece(chance, most):
     """A piece of up to so many squares, at any place."""
     piece = {(chance.randrange(8), chance.randrange(8))}
