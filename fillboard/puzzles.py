@@ -3,7 +3,7 @@
 from fillboard.lays import Puzzle
 from fillboard.pieces import is_piece, squares_of, ways_to_lie
 from fillboard.turns import number_different
-from fillboard.walk import Walk
+from fillboard.walk import Walk, lays_without_rivals
 
 NO_PIECE = -2
 NOT_SO_MANY = -3
@@ -50,8 +50,9 @@ def count(board, m, the_all, pieces, counts):
     if refused != 0:
         return [refused]
     walk = Walk(Puzzle(board, the_all, pieces, counts))
+    # The walk ends behind the filling that makes them as many as are counted.
     walk.walk_through(MOST_COUNTED - 1, MOST_COUNTED - 1)
-    return [min(walk.passed, MOST_COUNTED)]
+    return [walk.passed]
 
 
 def nth(board, m, the_all, k, most, pieces, counts):
@@ -76,3 +77,19 @@ def different(board, m, the_all, pieces, counts):
     if len(walk.found) > MOST_COMPARED:
         return [TOO_MANY_FILLINGS]
     return [number_different(board, walk.found)]
+
+
+def forced(board, m, the_all, most, pieces, counts):
+    """The pieces that lie in every filling on the same squares: how many, then each one's number and squares."""
+    refused = refusal(m, 0, most, pieces)
+    if refused != 0:
+        return [refused]
+    walk = Walk(Puzzle(board, the_all, pieces, counts))
+    walk.walk_through(MOST_COUNTED - 1, MOST_COUNTED - 1)
+    if walk.passed == MOST_COUNTED:
+        return [TOO_MANY_FILLINGS]
+    if walk.passed == 0:
+        return [NOT_SO_MANY]
+    used = list(walk.used.values())
+    walk.walk_through(0, 0)
+    return told(lays_without_rivals(walk.found[0], used), most)

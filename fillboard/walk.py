@@ -14,11 +14,16 @@ class Step:
 
 
 class Walk:
-    """A walk from filling to filling; `passed` tells how many have been passed, `found` those that were to be found."""
+    """A walk from filling to filling.
+
+    `passed` tells how many fillings have been passed, `found` holds those that were to be found, `used` the lays of
+    those that have been passed.
+    """
 
     def __init__(self, puzzle):
         self.puzzle = puzzle
         self.known = {}
+        self.used = {}
         self.steps = []
         self.passed = 0
         self.found = []
@@ -46,16 +51,41 @@ class Walk:
             if self.passed >= first:
                 self.found.append([step.lays[step.tried - 1] for step in self.steps])
             self.passed = self.passed + 1
+            self.mark_last()
             return
         number = self.known.get(state)
         if number is None or (number > 0 and self.passed + number > first):
             lays = self.puzzle.lays_next(state)
             if len(lays) > 0:
                 self.steps.append(Step(state, lays, self.passed))
-        else:
+        elif number > 0:
             self.passed = self.passed + number
+            self.mark_last()
 
     def leave(self):
         """Goes back from a state in which all has been tried."""
         step = self.steps.pop()
-        keep(self.known, step.state, self.passed - step.before)
+        number = self.passed - step.before
+        keep(self.known, step.state, number)
+        if number > 0:
+            self.mark_last()
+
+    def mark_last(self):
+        """Marks what was laid last as used in a filling."""
+        if len(self.steps) > 0:
+            step = self.steps[-1]
+            lay = step.lays[step.tried - 1]
+            self.used[(lay.piece, lay.squares)] = lay
+
+
+def lays_without_rivals(filling, used):
+    """Those lays of a filling that share no square with another lay of any filling.
+
+    They are in every filling: one without such a lay would cover its squares with others.
+    """
+    found = []
+    for lay in filling:
+        sharing = [other for other in used if other.squares & lay.squares != 0]
+        if len(sharing) == 1:
+            found.append(lay)
+    return found
