@@ -24,7 +24,7 @@ def size_of(number):
     """How many squares the set has."""
     size = 0
     while number != 0:
-        # Less 1, only the bits from the lowest set one on are other ones.
+        # Taking off the lowest bit that is set makes it a round for each square, not for each bit.
         number = number & (number - 1)
         size = size + 1
     return size

@@ -52,9 +52,29 @@ def drawn_as(text, sign, x=0, y=0):
     return number
 
 
+def shown(text, pieces, x=0, y=0):
+    """The answer that a drawing shows: letters in their order for the pieces told; their numbers beside it."""
+    return as_answer([(number, drawn_as(text, sign, x, y)) for sign, number in zip("abcdefgh", pieces)])
+
+
+def as_answer(lays):
+    """How many lays there are, then each one's number and set."""
+    answer = [len(lays)]
+    for number, squares in lays:
+        answer += [number, squares]
+    return answer
+
+
 def block(wide, high, x=0, y=0):
     """The set of the squares of a rectangle."""
     return drawn(" ".join(["#" * wide] * high), x, y)
+
+
+# Sets that are no piece: empty, in parts, too large, joined by corners or by the numbers of their bits alone.
+NO_PIECES = (
+    0, 5, block(3, 3), ALL_SQUARES, square(7, 0) | square(0, 1), drawn("#. .#"), square(0, 0) | square(7, 7),
+    drawn("##.. ##.. ..## ..##"),
+)
 
 
 def places(number):

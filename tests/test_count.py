@@ -3,7 +3,7 @@
 import inspect
 import unittest
 
-from boards import ALL_SQUARES, DOMINO, GREATEST, LEAST, Unchanging, block, drawn, random_puzzles, square
+from boards import ALL_SQUARES, DOMINO, GREATEST, LEAST, NO_PIECES, Unchanging, block, drawn, random_puzzles, square
 from fillboard import puzzles
 from fillboard.puzzles import count
 
@@ -149,6 +149,14 @@ class HowMany(unittest.TestCase):
         for number, fillings in ((0, 0), (1, 0), (2, 0), (3, 3), (4, 3), (254, 3), (255, 3)):
             self.assertEqual(counted(block(3, 2), [DOMINO], [number]), fillings)
 
+    def test_of_one_piece_at_every_number(self):
+        for number in range(256):
+            self.assertEqual(counted(block(3, 2), [DOMINO], [number]), 3 if number > 2 else 0)
+            # The other piece lies on one square of them all, or, if this one is enough, on none.
+            fillings = (number >= 63) * 64 + (number >= 64)
+            self.assertEqual(counted(ALL_SQUARES, [1, 1], [number, 1]), fillings)
+            self.assertEqual(counted(ALL_SQUARES, [1, 1], [1, number]), fillings)
+
     def test_of_one_among_others(self):
         # One corner piece needs a square beside it; two need none.
         board = block(2, 3)
@@ -157,7 +165,8 @@ class HowMany(unittest.TestCase):
 
     def test_of_one_shape_told_as_two(self):
         board = block(3, 2)
-        for first, second, fillings in ((1, 1, 0), (1, 2, 9), (2, 1, 9), (2, 2, 18), (3, 0, 3), (3, 3, 24), (255, 3, 24)):
+        numbers = ((1, 1, 0), (1, 2, 9), (2, 1, 9), (2, 2, 18), (3, 0, 3), (3, 3, 24), (255, 3, 24))
+        for first, second, fillings in numbers:
             self.assertEqual(counted(board, [DOMINO, DOMINO], [first, second]), fillings)
             self.assertEqual(counted(board, [DOMINO, drawn("# #", 5, 5)], [first, second]), fillings)
 
@@ -245,11 +254,6 @@ class AMillion(unittest.TestCase):
 
 
 class Refusals(unittest.TestCase):
-    NO_PIECES = (
-        0, 5, block(3, 3), block(8, 8), square(7, 0) | square(0, 1), drawn("#. .#"), square(0, 0) | square(7, 7),
-        drawn("##.. ##.. ..## ..##"),
-    )
-
     def test_m_out_of_its_range(self):
         for m in (-1, 33, 34, -32, LEAST, GREATEST):
             for board in (0, 1, ALL_SQUARES):
@@ -262,14 +266,14 @@ class Refusals(unittest.TestCase):
         self.assertEqual(count(1, 32, 0, [1] * 32, [1] * 32), [32])
 
     def test_no_piece(self):
-        for piece in self.NO_PIECES:
+        for piece in NO_PIECES:
             for board in (0, 1, block(2, 2), ALL_SQUARES):
                 for number in (0, 1, 255):
                     for the_all in (0, 1):
                         self.assertEqual(counted(board, [piece], [number], the_all), -2)
 
     def test_no_piece_among_pieces(self):
-        for piece in self.NO_PIECES:
+        for piece in NO_PIECES:
             for at in (0, 1, 15, 31):
                 pieces = [1] * 32
                 pieces[at] = piece

@@ -5,8 +5,8 @@ import random
 import unittest
 
 from boards import (
-    ALL_SQUARES, DOMINO, GREATEST, LEAST, MOST_TRIED, Unchanging, block, drawn, plain_different, plain_fillings,
-    random_piece, random_puzzles, square,
+    ALL_SQUARES, DOMINO, GREATEST, LEAST, MOST_TRIED, NO_PIECES, Unchanging, block, drawn, plain_different,
+    plain_fillings, random_piece, random_puzzles,
 )
 from fillboard import puzzles
 from fillboard.puzzles import count, different
@@ -231,8 +231,6 @@ class TenThousand(unittest.TestCase):
 
 
 class Refusals(unittest.TestCase):
-    NO_PIECES = (0, 5, block(3, 3), ALL_SQUARES, square(7, 0) | square(0, 1), drawn("#. .#"))
-
     def test_m_out_of_its_range(self):
         for m in (-1, 33, LEAST, GREATEST):
             for board in (0, 1, ALL_SQUARES):
@@ -245,14 +243,14 @@ class Refusals(unittest.TestCase):
         self.assertEqual(different(1, 32, 0, [1] * 32, [1] * 32), [32])
 
     def test_no_piece(self):
-        for piece in self.NO_PIECES:
+        for piece in NO_PIECES:
             for number in (0, 1, 255):
                 for board in (0, 1, block(2, 2)):
                     self.assertEqual(apart(board, [piece], [number]), [-2])
                     self.assertEqual(apart(board, [1, piece], [number] * 2, 1), [-2])
 
     def test_no_piece_before_too_many(self):
-        for piece in self.NO_PIECES:
+        for piece in NO_PIECES:
             for number in (0, 1):
                 self.assertEqual(apart(ALL_SQUARES, [DOMINO, piece], [32, number]), [-2])
                 self.assertEqual(apart(ALL_SQUARES, [piece, DOMINO], [number, 32]), [-2])

@@ -3,7 +3,9 @@
 import inspect
 import unittest
 
-from boards import ALL_SQUARES, DOMINO, GREATEST, LEAST, Unchanging, block, drawn, drawn_as, random_puzzles, square
+from boards import (
+    ALL_SQUARES, DOMINO, GREATEST, LEAST, NO_PIECES, Unchanging, as_answer, block, drawn, random_puzzles, shown, square,
+)
 from fillboard import puzzles
 from fillboard.puzzles import count, forced, nth
 
@@ -19,14 +21,6 @@ NOT_0 = (1, -1, GREATEST, LEAST)
 def fixed(board, pieces, counts, the_all=0, most=64):
     """What is answered; the lists that are handed in are watched."""
     return forced(board, len(pieces), the_all, most, Unchanging(pieces), Unchanging(counts))
-
-
-def shown(text, pieces, x=0, y=0):
-    """The answer that a drawing shows: letters in their order for the pieces told; their numbers beside it."""
-    answer = [len(pieces)]
-    for sign, number in zip("abcdefgh", pieces):
-        answer += [number, drawn_as(text, sign, x, y)]
-    return answer
 
 
 class TheCall(unittest.TestCase):
@@ -141,9 +135,7 @@ class Ordinary(unittest.TestCase):
             answer = NONE_SUCH
             if fillings:
                 alike = [lay for lay in fillings[0] if all(lay in filling for filling in fillings)]
-                answer = [len(alike)]
-                for number, squares in alike:
-                    answer += [number, squares]
+                answer = as_answer(alike)
                 kinds[len(alike), len(fillings[0]), len(fillings) > 1] = True
             with self.subTest(board=board, the_all=the_all, pieces=pieces, counts=counts):
                 self.assertEqual(fixed(board, pieces, counts, the_all), answer)
@@ -170,9 +162,7 @@ class Most(unittest.TestCase):
         self.assertEqual(fixed(0, [1], [1], most=0), [0])
 
     def test_sixty_four(self):
-        answer = [64]
-        for bit in range(64):
-            answer += [0, 1 << bit]
+        answer = as_answer([(0, 1 << bit) for bit in range(64)])
         self.assertEqual(fixed(ALL_SQUARES, [1], [64], most=64), answer)
         self.assertEqual(fixed(ALL_SQUARES, [1], [64], most=63), TOO_MANY)
 
@@ -218,7 +208,8 @@ class AMillion(unittest.TestCase):
 
     def test_more(self):
         for most in (0, 1, 64):
-            self.assertEqual(fixed(self.BOARD, [DOMINO] + self.PIECES, [1] + [6] * 10 + [1], 0, most), TOO_MANY_FILLINGS)
+            answer = fixed(self.BOARD, [DOMINO] + self.PIECES, [1] + [6] * 10 + [1], most=most)
+            self.assertEqual(answer, TOO_MANY_FILLINGS)
             self.assertEqual(fixed(ALL_SQUARES, [DOMINO], [32], most=most), TOO_MANY_FILLINGS)
 
     def test_many_in_one_part(self):
@@ -228,8 +219,6 @@ class AMillion(unittest.TestCase):
 
 
 class Refusals(unittest.TestCase):
-    NO_PIECES = (0, 5, block(3, 3), ALL_SQUARES, square(7, 0) | square(0, 1), drawn("#. .#"))
-
     def test_m_out_of_its_range(self):
         for m in (-1, 33, LEAST, GREATEST):
             for board in (0, 1, ALL_SQUARES):
@@ -249,12 +238,12 @@ class Refusals(unittest.TestCase):
                 self.assertEqual(fixed(board, [DOMINO], [32], most=most), [-8])
 
     def test_out_of_range_before_no_piece(self):
-        for piece in self.NO_PIECES:
+        for piece in NO_PIECES:
             for most in (-1, LEAST):
                 self.assertEqual(fixed(1, [1, piece], [1, 1], most=most), [-8])
 
     def test_no_piece_before_what_comes_of_the_search(self):
-        for piece in self.NO_PIECES:
+        for piece in NO_PIECES:
             for number in (0, 1):
                 for pieces in ([DOMINO, piece], [piece, DOMINO]):
                     counts = [32 if one == DOMINO else number for one in pieces]

@@ -3,7 +3,10 @@
 import inspect
 import unittest
 
-from boards import ALL_SQUARES, DOMINO, GREATEST, LEAST, Unchanging, block, drawn, drawn_as, random_puzzles, square
+from boards import (
+    ALL_SQUARES, DOMINO, GREATEST, LEAST, NO_PIECES, Unchanging, as_answer, block, drawn, drawn_as, random_puzzles,
+    shown,
+)
 from fillboard import puzzles
 from fillboard.puzzles import nth
 
@@ -17,14 +20,6 @@ TOO_MANY = [-7]
 def kth(board, pieces, counts, k, the_all=0, most=64):
     """What is answered; the lists that are handed in are watched."""
     return nth(board, len(pieces), the_all, k, most, Unchanging(pieces), Unchanging(counts))
-
-
-def shown(text, pieces, x=0, y=0):
-    """The answer that a drawing shows: letters in their order for the pieces laid; their numbers beside it."""
-    answer = [len(pieces)]
-    for sign, number in zip("abcdefgh", pieces):
-        answer += [number, drawn_as(text, sign, x, y)]
-    return answer
 
 
 class TheCall(unittest.TestCase):
@@ -99,11 +94,8 @@ class TheOrder(unittest.TestCase):
     def check_first(self, board, piece, lying):
         """The piece lies so in the first fillings, one after another, among pieces of one square."""
         for k, squares in enumerate(lying):
-            answer = [9, 0, squares]
-            for bit in range(64):
-                if board & ~squares & 1 << bit:
-                    answer += [1, 1 << bit]
-            self.assertEqual(kth(board, [piece, 1], [1, 64], k), answer)
+            ones = [(1, 1 << bit) for bit in range(64) if board & ~squares & 1 << bit]
+            self.assertEqual(kth(board, [piece, 1], [1, 64], k), as_answer([(0, squares)] + ones))
         self.assertEqual(kth(board, [piece, 1], [1, 64], len(lying))[1], 1)
 
     def test_of_the_pieces(self):
@@ -163,12 +155,7 @@ class TheOrder(unittest.TestCase):
 
     def test_against_a_plain_search(self):
         for board, the_all, pieces, counts, fillings in random_puzzles(350):
-            answers = []
-            for filling in fillings:
-                answers.append([len(filling)])
-                for number, squares in filling:
-                    answers[-1] += [number, squares]
-            answers.append(NONE_SUCH)
+            answers = [as_answer(filling) for filling in fillings] + [NONE_SUCH]
             with self.subTest(board=board, the_all=the_all, pieces=pieces, counts=counts):
                 for k in list(range(0, len(answers), 1 + len(answers) // 10)) + [len(fillings)]:
                     self.assertEqual(kth(board, pieces, counts, k, the_all), answers[k])
@@ -197,25 +184,16 @@ class ManyFillings(unittest.TestCase):
             self.assertEqual(kth(block(6, 1), [1] * 11, [6] * 11, k), self.digits(k, 11))
 
     def test_dominoes_on_the_whole_board(self):
-        rows = [32]
-        for y in range(8):
-            for x in (0, 2, 4, 6):
-                rows += [0, drawn("##", x, y)]
-        self.assertEqual(kth(ALL_SQUARES, [DOMINO], [32], 0), rows)
-        columns = [32]
-        for y in (0, 2, 4, 6):
-            for x in range(8):
-                columns += [0, drawn("# #", x, y)]
-        self.assertEqual(kth(ALL_SQUARES, [UPRIGHT], [32], 0), columns)
+        rows = [(0, drawn("##", x, y)) for y in range(8) for x in (0, 2, 4, 6)]
+        self.assertEqual(kth(ALL_SQUARES, [DOMINO], [32], 0), as_answer(rows))
+        columns = [(0, drawn("# #", x, y)) for y in (0, 2, 4, 6) for x in range(8)]
+        self.assertEqual(kth(ALL_SQUARES, [UPRIGHT], [32], 0), as_answer(columns))
         answer = kth(ALL_SQUARES, [DOMINO], [32], LAST)
         self.assertEqual(answer[0], 32)
         self.assertEqual(sum(answer[2::2]), ALL_SQUARES)
 
     def test_sixty_four_pieces(self):
-        answer = [64]
-        for bit in range(64):
-            answer += [0, 1 << bit]
-        self.assertEqual(kth(ALL_SQUARES, [1], [64], 0), answer)
+        self.assertEqual(kth(ALL_SQUARES, [1], [64], 0), as_answer([(0, 1 << bit) for bit in range(64)]))
         self.assertEqual(kth(ALL_SQUARES, [1], [64], 0, most=63), TOO_MANY)
         self.assertEqual(kth(ALL_SQUARES, [1], [64], 1), NONE_SUCH)
 
@@ -259,8 +237,6 @@ class TheEmptyBoard(unittest.TestCase):
 
 
 class Refusals(unittest.TestCase):
-    NO_PIECES = (0, 5, block(3, 3), ALL_SQUARES, square(7, 0) | square(0, 1), drawn("#. .#"))
-
     def test_m_out_of_its_range(self):
         for m in (-1, 33, LEAST, GREATEST):
             for board in (0, ALL_SQUARES):
@@ -284,12 +260,12 @@ class Refusals(unittest.TestCase):
                 self.assertEqual(kth(board, [1], [1], 0, most=most), [-8])
 
     def test_out_of_range_before_no_piece(self):
-        for piece in self.NO_PIECES:
+        for piece in NO_PIECES:
             for k, most in ((-1, 5), (LAST + 1, 5), (0, -1), (GREATEST, LEAST)):
                 self.assertEqual(kth(1, [1, piece], [1, 1], k, most=most), [-8])
 
     def test_no_piece_before_what_comes_of_the_search(self):
-        for piece in self.NO_PIECES:
+        for piece in NO_PIECES:
             for number in (0, 1):
                 for pieces in ([1, piece], [piece, 1]):
                     self.assertEqual(kth(1, pieces, [number] * 2, 0), [-2])

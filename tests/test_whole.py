@@ -6,6 +6,7 @@ import io
 import itertools
 import sys
 import unittest
+import unittest.mock
 
 from boards import ALL_SQUARES, DOMINO, GREATEST, LEAST, Unchanging, block, drawn
 from fillboard.puzzles import count, different, forced, nth, ways
@@ -89,6 +90,16 @@ class NothingIsKept(unittest.TestCase):
                 self.assertEqual(answer, expected)
                 answer.append(8)
                 answer[0] = -1
+
+    def test_what_is_kept_within_a_call_changes_no_answer(self):
+        made = every_call()
+        answers = [function(*arguments) for function, arguments in made]
+        for most in (0, 1, 7):
+            with unittest.mock.patch("fillboard.lays.MOST_KEPT", most):
+                self.assertEqual([function(*arguments) for function, arguments in made], answers)
+                self.assertEqual(count(block(4, 4), 1, 0, [DOMINO], [8]), [36])
+                self.assertEqual(different(block(4, 4), 1, 0, [DOMINO], [8]), [9])
+                self.assertEqual(forced(block(4, 4) | 1 << 63, 2, 1, 1, [DOMINO, 1], [8, 1]), [1, 1, 1 << 63])
 
     def test_a_changed_list_is_read_anew(self):
         pieces = [DOMINO, 1]
